@@ -1,13 +1,18 @@
 """The desk: takes a list of calls on one new object, and gives back their answers."""
 
+from spantables.beside import cells_beside, is_side
 from spantables.cells import is_cell_text
+from spantables.parts import GROUP, is_group_name
 from spantables.reading import NO_FAULT, read_text
+from spantables.rectangles import Rectangle, is_whole, lies_in, whole_around
 from spantables.signs import bytes_of
 from spantables.tables import table_text
 
 NEW_TEXT = "@table 1\n@group\n\n"
 BAD_TEXT = -1
 NOT_THERE = -2
+NO_GROUP = -3
+NO_SIDE = -3
 
 
 class Desk:
@@ -47,6 +52,20 @@ def take_cell(desk, feed):
     row = feed.take_number()
     column = feed.take_number()
     return desk.table.cell_at(row, column)
+
+
+def take_part(desk, feed):
+    return desk.table.part_at(feed.take_number())
+
+
+# The rectangle, or None if it isn't all in the table.
+def take_rectangle(desk, feed):
+    row = feed.take_number()
+    column = feed.take_number()
+    down = feed.take_number()
+    right = feed.take_number()
+    rectangle = Rectangle(row, column, down, right)
+    return rectangle if lies_in(rectangle, desk.table) else None
 
 
 def answer_read(desk, feed):
@@ -96,6 +115,56 @@ def answer_row(desk, feed):
     return [desk.table.part_number(row)] + counted(columns)
 
 
+def answer_part(desk, feed):
+    part = take_part(desk, feed)
+    if part is None:
+        return [NOT_THERE]
+    return [part.kind, part.first_row, part.row_count] + counted(part.name)
+
+
+def answer_name(desk, feed):
+    part = take_part(desk, feed)
+    name = feed.take_text()
+    if part is None:
+        return [NOT_THERE]
+    if part.kind != GROUP:
+        return [NO_GROUP]
+    if not is_group_name(name):
+        return [BAD_TEXT]
+    changed = part.name != name
+    part.name = name
+    return [1 if changed else 0]
+
+
+def answer_whole(desk, feed):
+    rectangle = take_rectangle(desk, feed)
+    if rectangle is None:
+        return [NOT_THERE]
+    return [1 if is_whole(desk.table, rectangle) else 0]
+
+
+def answer_around(desk, feed):
+    rectangle = take_rectangle(desk, feed)
+    if rectangle is None:
+        return [NOT_THERE]
+    outer = whole_around(desk.table, rectangle)
+    return [outer.row, outer.column, outer.down, outer.right]
+
+
+def answer_beside(desk, feed):
+    cell = take_cell(desk, feed)
+    side = feed.take_number()
+    if cell is None:
+        return [NOT_THERE]
+    if not is_side(side):
+        return [NO_SIDE]
+    found = cells_beside(desk.table, cell, side)
+    told = [len(found)]
+    for other in found:
+        told.extend([other.row, other.column])
+    return told
+
+
 def answer_size(desk, feed):
     table = desk.table
     return [table.columns, len(table.rows), len(table.parts), len(table.ordered_cells())]
@@ -108,6 +177,11 @@ ANSWERERS = {
     3: answer_set,
     4: answer_nth,
     5: answer_row,
+    6: answer_part,
+    7: answer_name,
+    8: answer_whole,
+    9: answer_around,
+    10: answer_beside,
     11: answer_size,
 }
 

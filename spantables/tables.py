@@ -68,6 +68,12 @@ class Table:
             ordered.extend(cells)
         return ordered
 
+    # The part with this number, or None if it's the number of none.
+    def part_at(self, number):
+        if not 0 <= number < len(self.parts):
+            return None
+        return self.parts[number]
+
     def part_number(self, row):
         started = [part for part in self.parts if part.first_row <= row]
         return len(started) - 1

@@ -39,9 +39,13 @@ def cell(row, column):
     return [2, row, column]
 
 
-def put(row, column, words):
+def given_text(words):
     given = raw(words) if isinstance(words, str) else list(words)
-    return [3, row, column, len(given)] + given
+    return [len(given)] + given
+
+
+def put(row, column, words):
+    return [3, row, column] + given_text(words)
 
 
 def nth(k):
@@ -50,6 +54,26 @@ def nth(k):
 
 def row(number):
     return [5, number]
+
+
+def part(i):
+    return [6, i]
+
+
+def name(i, words):
+    return [7, i] + given_text(words)
+
+
+def whole(row, column, down, right):
+    return [8, row, column, down, right]
+
+
+def around(row, column, down, right):
+    return [9, row, column, down, right]
+
+
+def beside(row, column, side):
+    return [10, row, column, side]
 
 
 def size():
@@ -62,6 +86,10 @@ def shown(given):
 
 def told(first_row, first_column, down, right, words):
     return [first_row, first_column, down, right] + shown(raw(words))
+
+
+def told_part(kind, first_row, rows, words):
+    return [kind, first_row, rows] + shown(raw(words))
 
 
 def ask(*calls):
@@ -94,6 +122,7 @@ def whole_state(rows, columns, cells):
     """Calls that together tell all that an object of this size holds."""
     calls = [show(), size()]
     calls.extend(row(number) for number in range(-1, rows + 1))
+    calls.extend(part(number) for number in range(-1, 15))
     calls.extend(nth(number) for number in range(-1, cells + 1))
     calls.extend(cell(r, c) for r in range(rows) for c in range(columns))
     return calls

@@ -114,6 +114,28 @@ class Form(unittest.TestCase):
                 self.assertIsInstance(node.value, ast.Name, here)
                 self.assertNotIn(node.attr, methods, here)
 
+    def test_no_local_is_called_like_a_class_or_an_import_of_its_file(self):
+        for path in FILES:
+            tree = ast.parse(path.read_text())
+            taken = {alias.name for node in tree.body if isinstance(node, ast.ImportFrom) for alias in node.names}
+            taken |= {node.name for node in tree.body if isinstance(node, ast.ClassDef)}
+            for node in ast.walk(tree):
+                here = f"{path}:{getattr(node, 'lineno', 0)}"
+                if isinstance(node, ast.arg):
+                    self.assertNotIn(node.arg, taken, here)
+                if isinstance(node, ast.Name) and isinstance(node.ctx, ast.Store):
+                    self.assertNotIn(node.id, taken, here)
+
+    def test_no_two_files_draw_from_one_another(self):
+        draws = {path.stem: [] for path in FILES}
+        for path, node in nodes():
+            if isinstance(node, ast.ImportFrom):
+                draws[path.stem].append(node.module.split(".")[1])
+        while draws:
+            free = [stem for stem in draws if not any(other in draws for other in draws[stem])]
+            self.assertNotEqual(free, [], draws)
+            draws = {stem: draws[stem] for stem in draws if stem not in free}
+
     def test_names_are_bound_once_and_used(self):
         for path in FILES:
             tree = ast.parse(path.read_text())

@@ -4,7 +4,9 @@ import random
 import re
 import unittest
 
-from helper import ask, cell, nth, put, read_raw, row, show, shown, size
+from helper import (
+    FAR, around, ask, beside, cell, name, nth, part, put, read_raw, row, show, shown, size, whole,
+)
 
 MARKED = r"(?:[^|^@\\]|\\[|^@\\])"
 CELL = re.compile(rf"(?:\^([1-9][0-9]?)x([1-9][0-9]?)(?: (?=.)({MARKED}*))?|({MARKED}*))", re.DOTALL)
@@ -71,7 +73,7 @@ class Model:
                     return [number, 3]
                 if parts and self.unfinished(parts, board, rows):
                     return [number, 8]
-                parts.append((kind, rows))
+                parts.append([kind, rows, (group[1] or "") if group else ""])
             else:
                 if not parts:
                     return [number, 2]
@@ -100,7 +102,6 @@ class Model:
         if self.unfinished(parts, board, rows):
             return [len(lines) + 1, 8]
         self.board, self.cells, self.parts, self.rows, self.columns = board, cells, parts, rows, columns
-        self.lines = lines
         return [0, rows]
 
     @staticmethod
@@ -133,8 +134,77 @@ class Model:
         part = max(k for k, found in enumerate(self.parts) if found[1] <= r)
         return [part] + shown(sorted(found[1] for found in self.cells if found[0] == r))
 
+    def part(self, i):
+        if not 0 <= i < len(self.parts):
+            return [-2]
+        kind, first, words = self.parts[i]
+        behind = self.parts[i + 1][1] if i + 1 < len(self.parts) else self.rows
+        return [("head", "group", "foot").index(kind), first, behind - first] + shown(words.encode())
+
+    def name(self, i, words):
+        if not 0 <= i < len(self.parts):
+            return [-2]
+        if self.parts[i][0] != "group":
+            return [-3]
+        if words and not (NAME.fullmatch("@group " + words) and re.fullmatch("[ -~]+", words)):
+            return [-1]
+        changed = self.parts[i][2] != words
+        self.parts[i][2] = words
+        return [int(changed)]
+
+    def places(self, r, c, down, right):
+        """All places of the rectangle, or None if it's none of this table."""
+        fits = r >= 0 and c >= 0 and down >= 1 and right >= 1 and r + down <= self.rows and c + right <= self.columns
+        return {(y, x) for y in range(r, r + down) for x in range(c, c + right)} if fits else None
+
+    def whole(self, *rectangle):
+        inside = self.places(*rectangle)
+        if inside is None:
+            return [-2]
+        cut = {self.board[place] for place in inside} & {self.board[place] for place in set(self.board) - inside}
+        return [int(not cut)]
+
+    def around(self, r, c, down, right):
+        """A row or a column more wherever a cell goes through the edge."""
+        if self.places(r, c, down, right) is None:
+            return [-2]
+        top, left, bottom, end = r, c, r + down, c + right
+        before = None
+        while before != (top, left, bottom, end):
+            before = (top, left, bottom, end)
+            across, along = range(left, end), range(top, bottom)
+            if top > 0 and any(self.board[top, x] == self.board[top - 1, x] for x in across):
+                top -= 1
+            elif bottom < self.rows and any(self.board[bottom - 1, x] == self.board[bottom, x] for x in across):
+                bottom += 1
+            elif left > 0 and any(self.board[y, left] == self.board[y, left - 1] for y in along):
+                left -= 1
+            elif end < self.columns and any(self.board[y, end - 1] == self.board[y, end] for y in along):
+                end += 1
+        return [top, left, bottom - top, end - left]
+
+    def beside(self, r, c, side):
+        if (r, c) not in self.board:
+            return [-2]
+        if side not in (0, 1, 2, 3):
+            return [-3]
+        me = self.board[r, c]
+        y, x = ((-1, 0), (0, -1), (1, 0), (0, 1))[side]
+        steps = {self.board.get((place[0] + y, place[1] + x)) for place in self.board if self.board[place] == me}
+        found = sorted(self.cells[other][:2] for other in steps - {None, me})
+        return [len(found)] + [number for place in found for number in place]
+
     def size(self):
         return [self.columns, self.rows, len(self.parts), len(self.cells)]
+
+    def show(self):
+        lines = [f"@table {self.columns}"]
+        for i, (kind, first, words) in enumerate(self.parts):
+            lines.append(f"@{kind} {words}".rstrip(" "))
+            for r in range(first, first + self.part(i)[2]):
+                begun = sorted(found for found in self.cells if found[0] == r)
+                lines.append(" | ".join(write_cell(*found[2:]) for found in begun) if begun else "^")
+        return shown("".join(line + "\n" for line in lines).encode())
 
 
 def random_words(chance):
@@ -201,6 +271,51 @@ def spoil(chance, given):
     return "".join(lines[:here] + [other] + lines[here:])
 
 
+def random_number(chance, behind):
+    """Mostly one from 0 to behind, less 1."""
+    if chance.random() < 0.9:
+        return chance.randrange(behind)
+    return chance.choice((-1, behind, -FAR, FAR))
+
+
+def random_length(chance, first, behind):
+    if not 0 <= first < behind or chance.random() < 0.1:
+        return chance.choice((0, -1, 1, behind, behind + 1, -FAR, FAR))
+    return chance.randint(1, behind - first)
+
+
+def random_call(chance, model, sort):
+    """A call of this sort (none of read), and what it must answer."""
+    r, c = random_number(chance, model.rows), random_number(chance, model.columns)
+    rectangle = (r, c, random_length(chance, r, model.rows), random_length(chance, c, model.columns))
+    i = random_number(chance, len(model.parts))
+    if sort == 1:
+        return show(), model.show()
+    if sort == 2:
+        return cell(r, c), model.cell(r, c)
+    if sort == 3:
+        words = chance.choice((random_words(chance), random_words(chance), "a" * 61, " a", "", "\x7f"))
+        return put(r, c, words), model.put(r, c, words)
+    if sort == 4:
+        k = random_number(chance, len(model.cells))
+        return nth(k), model.nth(k)
+    if sort == 5:
+        return row(r), model.row(r)
+    if sort == 6:
+        return part(i), model.part(i)
+    if sort == 7:
+        words = chance.choice(("", "a b", "north", "n" * 20, "n" * 21, " a", "a ", "a|b", "^", "@", "\\", "\x1f", "b"))
+        return name(i, words), model.name(i, words)
+    if sort == 8:
+        return whole(*rectangle), model.whole(*rectangle)
+    if sort == 9:
+        return around(*rectangle), model.around(*rectangle)
+    if sort == 10:
+        side = random_number(chance, 4)
+        return beside(r, c, side), model.beside(r, c, side)
+    return size(), model.size()
+
+
 class AgainstTheModel(unittest.TestCase):
     def check(self, chance, given):
         model = Model()
@@ -211,12 +326,10 @@ class AgainstTheModel(unittest.TestCase):
         if reason == 0:
             calls.append(show())
             expected.append(shown(data))
-        for _ in range(6):
-            r, c = chance.randint(-1, model.rows), chance.randint(-1, model.columns)
-            k = chance.randint(-1, len(model.cells))
-            words = chance.choice((random_words(chance), "a" * 61, " a", ""))
-            calls.extend([cell(r, c), put(r, c, words), nth(k), row(r), size()])
-            expected.extend([model.cell(r, c), model.put(r, c, words), model.nth(k), model.row(r), model.size()])
+        for sort in chance.choices(range(2, 12), k=20):
+            call, answer = random_call(chance, model, sort)
+            calls.append(call)
+            expected.append(answer)
         self.assertEqual(ask(*calls), expected, given)
         return reason
 
@@ -236,6 +349,62 @@ class AgainstTheModel(unittest.TestCase):
             reasons[reason] = reasons.get(reason, 0) + 1
         # Else the texts would not be worth the name of a test. (Reason 5 and 9 are tested by hand.)
         self.assertTrue({0, 1, 2, 3, 4, 6, 7, 8} <= set(reasons), reasons)
+
+    def test_lists_of_a_hundred_mixed_calls(self):
+        chance = random.Random(3)
+        for _ in range(60):
+            model = Model()
+            calls = []
+            expected = []
+            left = 17000
+            for _ in range(100):
+                sort = chance.randrange(12)
+                if sort > 0:
+                    call, answer = random_call(chance, model, sort)
+                else:
+                    given = random_table(chance)
+                    if chance.random() < 0.5:
+                        given = spoil(chance, given)
+                    data = given.encode("latin-1")
+                    call, answer = read_raw(data), None
+                    if len(call) > left:
+                        call, answer = show(), model.show()
+                left -= len(call)
+                calls.append(call)
+                expected.append(model.take(data) if answer is None else answer)
+            self.assertGreaterEqual(left, 0)
+            # ask sees to it that the list is as before; and the second time is as the first one.
+            self.assertEqual(ask(*calls), expected)
+            self.assertEqual(ask(*calls), expected)
+
+    def test_all_rectangles_of_small_tables(self):
+        chance = random.Random(4)
+        for _ in range(25):
+            columns = chance.randint(1, 4)
+            heights = chance.choice(((4,), (2, 2), (1, 3), (5,), (2, 1, 2)))
+            lines = [f"@table {columns}"]
+            for height in heights:
+                lines += ["@group"] + random_part(chance, columns, height)
+            data = "".join(line + "\n" for line in lines).encode()
+            model = Model()
+            self.assertEqual(model.take(data), [0, sum(heights)])
+            rectangles = [
+                (r, c, down, right)
+                for r in range(model.rows) for c in range(model.columns)
+                for down in range(1, model.rows - r + 1) for right in range(1, model.columns - c + 1)
+            ]
+            places = {rectangle: model.places(*rectangle) for rectangle in rectangles}
+            good = [rectangle for rectangle in rectangles if model.whole(*rectangle) == [1]]
+            for start in range(0, len(rectangles), 40):
+                some = rectangles[start:start + 40]
+                found = ask(read_raw(data), *[whole(*one) for one in some], *[around(*one) for one in some])[1:]
+                self.assertEqual(found[:len(some)], [[int(one in good)] for one in some], data)
+                for one, outer in zip(some, found[len(some):]):
+                    larger = [other for other in good if places[one] <= places[other]]
+                    # The document's words: there is one that lies within every other one.
+                    within = [other for other in larger if all(places[other] <= places[each] for each in larger)]
+                    self.assertEqual([outer], [list(other) for other in within], data)
+                    self.assertEqual(outer, model.around(*one), data)
 
     def test_rows_of_all_short_lines(self):
         for columns in (1, 2):
